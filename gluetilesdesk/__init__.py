@@ -1,0 +1,1 @@
+"""Tiles that are glued together on a small grid."""

@@ -1,0 +1,100 @@
+"""Bonds between tiles, and how a grid grows by them."""
+
+from gluetilesdesk.instance import EMPTY
+
+NORTH = 0
+EAST = 1
+SOUTH = 2
+WEST = 3
+
+
+def neighbours(instance, position):
+    """For each neighbour: its position, the side that faces it, and its own side that faces back."""
+    width = instance.width
+    x = position % width
+    y = position // width
+    found = []
+    if y + 1 < instance.height:
+        found.append((position + width, NORTH, SOUTH))
+    if x + 1 < width:
+        found.append((position + 1, EAST, WEST))
+    if y > 0:
+        found.append((position - width, SOUTH, NORTH))
+    if x > 0:
+        found.append((position - 1, WEST, EAST))
+    return found
+
+
+def bond(instance, glue, facing_glue):
+    if glue != facing_glue:
+        return 0
+    return instance.strengths[glue]
+
+
+def binding_strength(instance, grid, position, kind):
+    """What a tile of this kind is held by at the position, whether or not it is there."""
+    glues = instance.kinds[kind]
+    total = 0
+    for place, side, facing_side in neighbours(instance, position):
+        if grid[place] != EMPTY:
+            facing_glues = instance.kinds[grid[place] - 1]
+            total += bond(instance, glues[side], facing_glues[facing_side])
+    return total
+
+
+def is_attachable(instance, grid, position, kind):
+    if grid[position] != EMPTY:
+        return False
+    return binding_strength(instance, grid, position, kind) >= instance.threshold
+
+
+def smallest_kind(instance, grid, position):
+    """The smallest kind that is attachable at the position, or None."""
+    for kind in range(len(instance.kinds)):
+        if is_attachable(instance, grid, position, kind):
+            return kind
+    return None
+
+
+def first_attachment(instance, grid):
+    """The position and the kind by which growing goes on, or None at its end."""
+    for position in range(len(grid)):
+        kind = smallest_kind(instance, grid, position)
+        if kind is not None:
+            return (position, kind)
+    return None
+
+
+def growth_steps(instance, grid):
+    """The attachments, in order, by which this grid grows until nothing is attachable."""
+    grown = list(grid)
+    attachments = []
+    attachment = first_attachment(instance, grown)
+    while attachment is not None:
+        attachments.append(attachment)
+        grown[attachment[0]] = attachment[1] + 1
+        attachment = first_attachment(instance, grown)
+    return attachments
+
+
+def after_round(instance, grid):
+    """The grid after one parallel round."""
+    # A new list: no tile of the round may bind to another of the same round.
+    later = list(grid)
+    for position in range(len(grid)):
+        kind = smallest_kind(instance, grid, position)
+        if kind is not None:
+            later[position] = kind + 1
+    return later
+
+
+def count_rounds(instance, grid):
+    """How many parallel rounds there are until nothing is attachable."""
+    rounds = 0
+    earlier = grid
+    later = after_round(instance, earlier)
+    while later != earlier:
+        rounds += 1
+        earlier = later
+        later = after_round(instance, earlier)
+    return rounds

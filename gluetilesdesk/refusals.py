@@ -1,0 +1,10 @@
+"""The codes by which a call is refused."""
+
+NO_SUCH = -2
+NOTHING_ATTACHED = -6
+NO_INSTANCE = -11
+NOT_ATTACHABLE = -14
+OCCUPIED = -17
+OUT_OF_LIMITS = -22
+KINDS_FULL = -28
+NOT_THERE = -33
