@@ -8,12 +8,13 @@ from gluetilesdesk.reading import REMOVE_SEED, SET_STRENGTH, SET_THRESHOLD, UNDO
 from gluetilesdesk.refusals import NO_INSTANCE
 
 
+# The call has a number, but nothing answers it on an instance so far.
 class CallNotBuilt(Exception):
-    """The call has a number, but nothing answers it on an instance so far."""
+    pass
 
 
+# The calls from ADD_TILE_KIND to GROW, which may change the instance.
 def answer_change(instance, number, given):
-    """The calls from ADD_TILE_KIND to GROW, which may change the instance."""
     if number == ADD_TILE_KIND:
         return add_tile_kind(instance, given)
     if number == SET_STRENGTH:
@@ -33,8 +34,8 @@ def answer_change(instance, number, given):
     return grow(instance)
 
 
+# The calls behind GROW, which only report values.
 def answer_report(instance, number):
-    """The calls behind GROW, which only report values."""
     if number == PARALLEL_ROUNDS:
         return parallel_rounds(instance)
     raise CallNotBuilt(f"call {number}")
@@ -50,8 +51,8 @@ def answer_call(session, number, given):
     return answer_report(session.instance, number)
 
 
+# For each call, in order: how many numbers are answered, then these.
 def answers(calls):
-    """For each call, in order: how many numbers are answered, then these."""
     session = Session()
     written = []
     at = 0

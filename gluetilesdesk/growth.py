@@ -8,8 +8,8 @@ SOUTH = 2
 WEST = 3
 
 
+# For each neighbour: its position, the side that faces it, and its own side that faces back.
 def neighbours(instance, position):
-    """For each neighbour: its position, the side that faces it, and its own side that faces back."""
     width = instance.width
     x = position % width
     y = position // width
@@ -31,8 +31,8 @@ def bond(instance, glue, facing_glue):
     return instance.strengths[glue]
 
 
+# What a tile of this kind is held by at the position, whether or not it is there.
 def binding_strength(instance, grid, position, kind):
-    """What a tile of this kind is held by at the position, whether or not it is there."""
     glues = instance.kinds[kind]
     total = 0
     for place, side, facing_side in neighbours(instance, position):
@@ -48,16 +48,16 @@ def is_attachable(instance, grid, position, kind):
     return binding_strength(instance, grid, position, kind) >= instance.threshold
 
 
+# The smallest kind that is attachable at the position, or None.
 def smallest_kind(instance, grid, position):
-    """The smallest kind that is attachable at the position, or None."""
     for kind in range(len(instance.kinds)):
         if is_attachable(instance, grid, position, kind):
             return kind
     return None
 
 
+# The position and the kind by which growing goes on, or None at its end.
 def first_attachment(instance, grid):
-    """The position and the kind by which growing goes on, or None at its end."""
     for position in range(len(grid)):
         kind = smallest_kind(instance, grid, position)
         if kind is not None:
@@ -65,8 +65,8 @@ def first_attachment(instance, grid):
     return None
 
 
+# The attachments, in order, by which this grid grows until nothing is attachable.
 def growth_steps(instance, grid):
-    """The attachments, in order, by which this grid grows until nothing is attachable."""
     grown = list(grid)
     attachments = []
     attachment = first_attachment(instance, grown)
@@ -77,8 +77,8 @@ def growth_steps(instance, grid):
     return attachments
 
 
+# The grid after one parallel round.
 def after_round(instance, grid):
-    """The grid after one parallel round."""
     # A new list: no tile of the round may bind to another of the same round.
     later = list(grid)
     for position in range(len(grid)):
@@ -88,8 +88,8 @@ def after_round(instance, grid):
     return later
 
 
+# How many parallel rounds there are until nothing is attachable.
 def count_rounds(instance, grid):
-    """How many parallel rounds there are until nothing is attachable."""
     rounds = 0
     earlier = grid
     later = after_round(instance, earlier)

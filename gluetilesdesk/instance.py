@@ -8,9 +8,8 @@ EMPTY = 0
 MOST_GLUE = 9
 
 
+# The tile kinds, the glues and the tiles of one grid.
 class Instance:
-    """The tile kinds, the glues and the tiles of one grid."""
-
     def __init__(self, width, height, threshold):
         self.width = width
         self.height = height
@@ -23,9 +22,8 @@ class Instance:
         self.attached = []
 
 
+# One list of calls: it has no instance until one is created.
 class Session:
-    """One list of calls: it has no instance until one is created."""
-
     def __init__(self):
         self.instance = None
 
@@ -42,8 +40,8 @@ def position_number(instance, x, y):
     return y * instance.width + x
 
 
+# A new list at each call: the caller may change it.
 def current_grid(instance):
-    """A new list at each call: the caller may change it."""
     grid = [EMPTY] * (instance.width * instance.height)
     for position, kind in instance.seeds.items():
         grid[position] = kind + 1

@@ -16,8 +16,8 @@ def outside(value, low, high):
     return value < low or value > high
 
 
+# Tiles were attached by the rules and seeds of their time, so they go when these change.
 def drop_attached(instance):
-    """Attached tiles were judged by rules or seeds that no longer hold."""
     instance.attached = []
 
 

@@ -16,15 +16,15 @@ PARALLEL_ROUNDS = 10
 GIVEN = (3, 0, 2, 1, 3, 2, 3, 0, 0, 0, 0, 0, 1, 0, 0, 0, 0, 0, 2, 2, 0, 0)
 
 
+# Where the numbers begin that are given to the call at this place.
 def given_begin(calls, at):
-    """Where the numbers begin that are given to the call at this place."""
     if calls[at] == ADD_TILE_KIND:
         return at + 2
     return at + 1
 
 
+# Where they end, and so where the call behind it begins.
 def given_end(calls, at):
-    """Where they end, and so where the call behind it begins."""
     if calls[at] == ADD_TILE_KIND:
         return at + 2 + calls[at + 1]
     return at + 1 + GIVEN[calls[at]]

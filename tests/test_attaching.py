@@ -50,6 +50,12 @@ class Attach(unittest.TestCase):
         calls = [create(2, 2, 1), add_tile_type(0, 1, 0, 1), add_seed(1, 0, 0)]
         self.assertEqual(ask(*calls, attach(0, 1, 0), attach(1, 1, 0), attach(0, 0, 0))[-3:], [-14, -14, 1])
 
+    def test_opposite_edges_are_not_neighbours(self):
+        kind = add_tile_type(1, 1, 1, 1)
+        for size, near, far in (((1, 3), (0, 0), (0, 2)), ((3, 1), (0, 0), (2, 0)), ((6, 6), (3, 0), (3, 5))):
+            self.assertEqual(last(create(*size, 1), kind, add_seed(*near, 0), attach(*far, 0)), -14)
+            self.assertEqual(last(create(*size, 1), kind, add_seed(*far, 0), attach(*near, 0)), -14)
+
     def test_the_first_tile_needs_a_seed(self):
         self.assertEqual(last(create(1, 1, 1), add_tile_type(1, 1, 1, 1), attach(0, 0, 0)), -14)
 

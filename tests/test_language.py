@@ -97,6 +97,8 @@ class Language(unittest.TestCase):
                 if isinstance(node, ast.Assign):
                     self.assertEqual(len(node.targets), 1, where)
                     self.assertNotIsInstance(node.targets[0], (ast.Tuple, ast.List), where)
+                if isinstance(node, ast.Expr) and node.col_offset > 0:
+                    self.assertIsInstance(node.value, ast.Call, where)
                 if isinstance(node, ast.ListComp):
                     self.assertEqual(len(node.generators), 1, where)
                     self.assertLessEqual(len(node.generators[0].ifs), 1, where)

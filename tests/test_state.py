@@ -3,7 +3,8 @@
 import unittest
 
 from gluetilesdesk.board import answer_call
-from gluetilesdesk.instance import Session
+from gluetilesdesk.growth import count_rounds, growth_steps
+from gluetilesdesk.instance import Session, current_grid
 from gluetilesdesk.reading import given_begin, given_end
 from helper import (CLEAR, GROW, HUGE, ROUNDS, ROW, UNDO, add_seed, add_tile_type, ask, attach, create, joined,
                     remove_seed, set_strength, set_threshold)
@@ -167,6 +168,14 @@ class Changes(unittest.TestCase):
             before = snapshot(session)
             play(session, ROUNDS)
             self.assertEqual(snapshot(session), before)
+
+    def test_reckoning_ahead_leaves_the_grid_it_starts_from(self):
+        instance = session_after(*BUSY).instance
+        grid = current_grid(instance)
+        self.assertEqual(grid, [1, 2, 3, 0, 0, 0, 0, 3])
+        self.assertEqual(growth_steps(instance, grid), [(6, 1), (5, 0)])
+        self.assertEqual(count_rounds(instance, grid), 2)
+        self.assertEqual(grid, [1, 2, 3, 0, 0, 0, 0, 3])
 
 
 if __name__ == "__main__":
