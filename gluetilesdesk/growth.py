@@ -48,41 +48,63 @@ def is_attachable(instance, grid, position, kind):
     return binding_strength(instance, grid, position, kind) >= instance.threshold
 
 
-# The smallest kind that is attachable at the position, or None.
-def smallest_kind(instance, grid, position):
-    for kind in range(len(instance.kinds)):
+# The smallest of these kinds, which are in order, that is attachable at the position, or None.
+def smallest_kind(instance, grid, position, kinds):
+    for kind in kinds:
         if is_attachable(instance, grid, position, kind):
             return kind
     return None
 
 
-# The position and the kind by which growing goes on, or None at its end.
-def first_attachment(instance, grid):
-    for position in range(len(grid)):
-        kind = smallest_kind(instance, grid, position)
+# For each position the kinds that may be attached there: all of them.
+def free_choice(instance):
+    kinds = list(range(len(instance.kinds)))
+    return [kinds] * (instance.width * instance.height)
+
+
+# The first position from the begin on with a kind of its choice that is attachable, and this kind; None at the end.
+def first_attachment(instance, grid, choice, begin):
+    for position in range(begin, len(grid)):
+        kind = smallest_kind(instance, grid, position, choice[position])
         if kind is not None:
             return (position, kind)
     return None
 
 
-# The attachments, in order, by which this grid grows until nothing is attachable.
-def growth_steps(instance, grid):
+# The attachments, in order, by which this grid grows as long as some position has one of its choice.
+def chosen_steps(instance, grid, choice):
     grown = list(grid)
     attachments = []
-    attachment = first_attachment(instance, grown)
+    attachment = first_attachment(instance, grown, choice, 0)
     while attachment is not None:
         attachments.append(attachment)
         grown[attachment[0]] = attachment[1] + 1
-        attachment = first_attachment(instance, grown)
+        # A new tile helps its neighbours alone, and the first of them lies one row to the south.
+        begin = max(attachment[0] - instance.width, 0)
+        attachment = first_attachment(instance, grown, choice, begin)
     return attachments
+
+
+# The attachments, in order, by which this grid grows until nothing is attachable.
+def growth_steps(instance, grid):
+    return chosen_steps(instance, grid, free_choice(instance))
+
+
+# A new list: the grid that these attachments lead to.
+def after_steps(grid, attachments):
+    later = list(grid)
+    for position, kind in attachments:
+        later[position] = kind + 1
+    return later
 
 
 # The grid after one parallel round.
 def after_round(instance, grid):
+    choice = free_choice(instance)
     # A new list: no tile of the round may bind to another of the same round.
     later = list(grid)
     for position in range(len(grid)):
-        kind = smallest_kind(instance, grid, position)
+        kind = smallest_kind(instance, grid, position, choice[position])
         if kind is not None:
             later[position] = kind + 1
     return later

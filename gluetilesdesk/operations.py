@@ -1,6 +1,6 @@
-"""The operations. Each gives back the list of numbers that it answers, or its refusal alone."""
+"""The operations that may change what is held. Each gives back the numbers that it answers, or its refusal alone."""
 
-from gluetilesdesk.growth import binding_strength, count_rounds, growth_steps
+from gluetilesdesk.growth import binding_strength, growth_steps
 from gluetilesdesk.instance import EMPTY, MOST_GLUE, Instance, current_grid, has_kind, has_position, position_number
 from gluetilesdesk.refusals import KINDS_FULL, NO_SUCH, NOT_ATTACHABLE, NOT_THERE, NOTHING_ATTACHED
 from gluetilesdesk.refusals import OCCUPIED, OUT_OF_LIMITS
@@ -112,7 +112,3 @@ def grow(instance):
     attachments = growth_steps(instance, current_grid(instance))
     instance.attached.extend(attachments)
     return [len(attachments)]
-
-
-def parallel_rounds(instance):
-    return [count_rounds(instance, current_grid(instance))]

@@ -3,8 +3,16 @@
 import unittest
 
 from gluetilesdesk.board import answers
-from helper import (EVERY_CALL_BUT_CREATE, GROW, HUGE, ROUNDS, ROW, UNDO, add_seed, add_tile_type, ask, create,
-                    joined, last, set_strength, set_threshold)
+from helper import (ALTERNATIVES, EVERY_CALL_BUT_CREATE, FIRST_ALTERNATIVE, GET_GRID, GROW, HUGE, INDEPENDENT,
+                    IS_UNIQUE, MAX_PREREQUISITES, ROUNDS, ROW, STATUS, TERMINAL_GRID, UNDO, add_seed, add_tile_type,
+                    ask, create, get_tile_type, grid_without, joined, last, prerequisites, set_strength,
+                    set_threshold, told)
+
+# Every report has something to tell: position 1 may get kind 1 or kind 3.
+ALL_SORTS = ROW + (
+    add_tile_type(0, 0, 0, 1), GET_GRID, get_tile_type(1), STATUS, IS_UNIQUE, FIRST_ALTERNATIVE, ALTERNATIVES,
+    TERMINAL_GRID, grid_without(2, 0), prerequisites(2, 0), MAX_PREREQUISITES, INDEPENDENT, GROW, IS_UNIQUE, ROUNDS,
+    UNDO, add_tile_type(9, 9, 9, 9), add_tile_type(), create(7, 1, 1), get_tile_type(HUGE), prerequisites(0, 0))
 
 
 class WatchedList(list):
@@ -30,7 +38,7 @@ class Writing(unittest.TestCase):
         self.assertEqual(answers(joined(ROW)), [1, 0, 1, 0, 1, 1, 1, 2, 1, 1])
 
     def test_the_answer_is_a_list_of_whole_numbers(self):
-        written = answers(joined(ROW + (GROW, ROUNDS, UNDO)))
+        written = answers(joined(ALL_SORTS))
         self.assertIs(type(written), list)
         self.assertEqual({type(number) for number in written}, {int})
 
@@ -38,6 +46,27 @@ class Writing(unittest.TestCase):
         for length in (0, 1, 3, 5, 255):
             calls = [create(2, 2, 1), add_tile_type(*[7] * length), set_threshold(3), set_threshold(1)]
             self.assertEqual(ask(*calls), [0, -22, 1, 3], length)
+
+    def test_each_answer_number_by_number(self):
+        self.assertEqual(told(*ALL_SORTS)[5:], [
+            [3], [1, 1, 0, 0], [4, 0, 2, 0, 1], [4, 3, 1, 1, 1, 0] + [1] * 9, [0], [1, 1, 3], [1, 1, 3], [3, 1, 2, 3],
+            [2, 1, 2, 0], [1, 1], [1], [1, 1], [2], [1], [0], [1], [4], [-22], [-22], [-2], [-17]])
+
+    def test_an_error_is_its_code_alone(self):
+        calls = (get_tile_type(3), FIRST_ALTERNATIVE, grid_without(3, 0), grid_without(0, 0), prerequisites(3, 0),
+                 prerequisites(0, 0), set_strength(2, 0), prerequisites(2, 0))
+        written = answers(joined(ROW + calls))
+        self.assertEqual(written[2 * len(ROW):],
+                         [1, -2, 1, -33, 1, -2, 1, -17, 1, -2, 1, -17, 1, 1, 1, -33])
+
+    def test_no_other_number_is_below_zero(self):
+        for answer in told(*ALL_SORTS):
+            self.assertTrue(len(answer) == 1 or min(answer) >= 0, answer)
+
+    def test_forty_calls_on_a_large_grid(self):
+        start = [create(6, 6, 1)] + [add_tile_type(1, 1, 1, 1)] * 12 + [add_seed(0, 0, 0)]
+        found = told(*start, *[ALTERNATIVES] * 26)
+        self.assertEqual([len(answer) for answer in found[14:]], [1 + 2 * 35 * 11] * 26)
 
     def test_a_list_as_long_as_may_be(self):
         calls = [add_tile_type(*[HUGE] * 255)] * 40
@@ -49,17 +78,21 @@ class Writing(unittest.TestCase):
         for call in EVERY_CALL_BUT_CREATE:
             self.assertEqual(answers(call + create(1, 1, 1) + GROW), [1, -11, 1, 0, 1, 0], call)
 
+    def test_each_call_on_an_instance_ends_where_the_next_begins(self):
+        for call in EVERY_CALL_BUT_CREATE:
+            self.assertEqual(told(*ROW, call, create(1, 1, 1), GET_GRID)[-2:], [[0], [0, 0]], call)
+
 
 class Keeping(unittest.TestCase):
 
     def test_calls_are_not_changed(self):
-        calls = joined(ROW + (GROW, ROUNDS, UNDO, add_tile_type(9, 9, 9, 9), add_tile_type(), create(7, 1, 1)))
+        calls = joined(ALL_SORTS)
         before = list(calls)
         answers(calls)
         self.assertEqual(calls, before)
 
     def test_calls_are_not_changed_for_a_while(self):
-        calls = joined(ROW + (GROW, ROUNDS, UNDO, add_tile_type(9, 9, 9, 9), add_tile_type(), create(7, 1, 1)))
+        calls = joined(ALL_SORTS)
         self.assertEqual(answers(WatchedList(calls)), answers(calls))
 
     def test_no_instance_is_kept(self):
@@ -71,9 +104,10 @@ class Keeping(unittest.TestCase):
         first = ask(*calls)
         self.assertEqual(first, [0, 0, 1, 2, 1, 1, 1, 1])
         self.assertEqual(ask(*calls), first)
+        self.assertEqual(told(*ALL_SORTS), told(*ALL_SORTS))
 
     def test_changing_an_answer_changes_no_later_one(self):
-        calls = joined(ROW + (GROW,))
+        calls = joined(ALL_SORTS)
         written = answers(calls)
         kept = list(written)
         written.clear()

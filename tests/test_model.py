@@ -4,127 +4,19 @@ import random
 import unittest
 
 from gluetilesdesk.board import answers
-from helper import HUGE, joined
+from helper import HUGE, Model, joined, split_answers
 
-SIDES = ((0, 1), (1, 0), (0, -1), (-1, 0))
+# How each call may be answered: 0 for a success, else the code.
+WAYS = {0: (0, -22), 1: (0, -11, -22, -28), 2: (0, -11, -22), 3: (0, -11, -22), 4: (0, -11, -2, -17),
+        5: (0, -11, -2, -33), 6: (0, -11, -2, -17, -14), 7: (0, -11, -6), 8: (0, -11), 9: (0, -11), 10: (0, -11),
+        11: (0, -11), 12: (0, -11, -2), 13: (0, -11), 14: (0, -11), 15: (0, -11, -33), 16: (0, -11), 17: (0, -11),
+        18: (0, -11, -2, -17), 19: (0, -11, -2, -17, -33), 20: (0, -11), 21: (0, -11)}
 
-
-class Refused(Exception):
-    pass
-
-
-class Model:
-    """Tiles by their (x, y); each call is asked through its number."""
-
-    def __init__(self):
-        self.size = None
-
-    def call(self, number, given):
-        if number and self.size is None:
-            return -11
-        try:
-            return getattr(self, f"call_{number}")(*given)
-        except Refused as refused:
-            return refused.args[0]
-
-    def need(self, holds, code):
-        if not holds:
-            raise Refused(code)
-
-    def need_known(self, x, y, kind=None):
-        self.need(x in range(self.size[0]) and y in range(self.size[1]), -2)
-        self.need(kind is None or kind in range(len(self.kinds)), -2)
-
-    def call_0(self, width, height, threshold):
-        self.need(width in range(1, 7) and height in range(1, 7) and threshold in range(1, 5), -22)
-        self.size, self.threshold = (width, height), threshold
-        self.strength = dict.fromkeys(range(1, 10), 1)
-        self.kinds, self.seeds, self.attached = [], {}, {}
-        return 0
-
-    def call_1(self, *glues):
-        self.need(len(glues) == 4 and set(glues) <= set(range(10)), -22)
-        self.need(len(self.kinds) < 12, -28)
-        self.kinds.append(glues)
-        self.attached = {}
-        return len(self.kinds) - 1
-
-    def call_2(self, glue, strength):
-        self.need(glue in self.strength and strength in range(4), -22)
-        previous, self.strength[glue] = self.strength[glue], strength
-        self.attached = {}
-        return previous
-
-    def call_3(self, threshold):
-        self.need(threshold in range(1, 5), -22)
-        previous, self.threshold = self.threshold, threshold
-        self.attached = {}
-        return previous
-
-    def call_4(self, x, y, kind):
-        self.need_known(x, y, kind)
-        self.need((x, y) not in self.seeds, -17)
-        self.seeds[x, y] = kind
-        self.attached = {}
-        return len(self.seeds)
-
-    def call_5(self, x, y):
-        self.need_known(x, y)
-        self.need((x, y) in self.seeds, -33)
-        del self.seeds[x, y]
-        self.attached = {}
-        return len(self.seeds)
-
-    def tiles(self):
-        return {**self.seeds, **self.attached}
-
-    def held(self, tiles, place, kind):
-        total = 0
-        for side, (right, up) in enumerate(SIDES):
-            other = tiles.get((place[0] + right, place[1] + up))
-            if other is not None and self.kinds[kind][side] == self.kinds[other][(side + 2) % 4]:
-                total += self.strength.get(self.kinds[kind][side], 0)
-        return total
-
-    def attachable(self, tiles):
-        """All pairs of a place and a kind that may be attached, in the order of growing."""
-        places = [(x, y) for y in range(self.size[1]) for x in range(self.size[0])]
-        return [(place, kind) for place in places if place not in tiles for kind in range(len(self.kinds))
-                if self.held(tiles, place, kind) >= self.threshold]
-
-    def call_6(self, x, y, kind):
-        self.need_known(x, y, kind)
-        self.need((x, y) not in self.tiles(), -17)
-        strength = self.held(self.tiles(), (x, y), kind)
-        self.need(strength >= self.threshold, -14)
-        self.attached[x, y] = kind
-        return strength
-
-    def call_7(self):
-        self.need(self.attached, -6)
-        self.attached.popitem()
-        return len(self.attached)
-
-    def call_8(self):
-        removed = len(self.attached)
-        self.attached = {}
-        return removed
-
-    def call_9(self):
-        before = len(self.attached)
-        while self.attachable(self.tiles()):
-            place, kind = self.attachable(self.tiles())[0]
-            self.attached[place] = kind
-        return len(self.attached) - before
-
-    def call_10(self):
-        tiles = self.tiles()
-        rounds = 0
-        while self.attachable(tiles):
-            # Backwards, so that the smallest kind of a place is the one that stays.
-            tiles = {**tiles, **dict(reversed(self.attachable(tiles)))}
-            rounds += 1
-        return rounds
+CHANGING = dict(zip(range(11), (1, 4, 2, 2, 4, 3, 30, 12, 3, 12, 12)))
+REPORTING = dict(zip(range(11, 22), (6, 5, 5, 6, 8, 8, 5, 10, 14, 6, 6)))
+MIXED = {**dict(zip(range(11), (1, 3, 2, 1, 3, 2, 24, 5, 2, 3, 4))), **REPORTING}
+# Few of the calls that make another grid or take tiles away, so that there is much to report.
+SETTLED = {**dict(zip(range(11), (0.1, 0.5, 0.5, 0.3, 1, 0.5, 20, 4, 0.5, 0.5, 2))), **REPORTING}
 
 
 class Chooser:
@@ -155,39 +47,85 @@ class Chooser:
             return [self.number(1, 3)]
         if number in (4, 6):
             return place + [self.number(0, 4)]
-        return place if number == 5 else []
+        if number == 12:
+            return [self.number(0, 4)]
+        return place if number in (5, 18, 19) else []
 
-    def session(self):
-        """A beginning that lets something grow, then calls of all sorts."""
+    def session(self, weights, each_once=()):
+        """A beginning that lets something grow, then calls of all sorts up to 40."""
         width, height = self.chance.randint(1, 6), self.chance.randint(1, 6)
         most_glue = self.chance.choice((1, 2, 2, 3, 9))
-        calls = [(0, [width, height, self.chance.choice((1, 1, 1, 2, 2, 3, 4))])]
+        begin = [(0, [width, height, self.chance.choice((1, 1, 1, 2, 2, 3, 4))])]
         if self.chance.random() < 0.1:
-            calls = []
+            begin = []
         kinds = self.chance.choice((1, 2, 3, 4, 5, 6, 13))
         numbers = [1] * kinds + [2] * self.chance.randint(0, 2) + [4] * self.chance.randint(1, 3)
-        while len(calls) + len(numbers) < 40:
-            numbers += self.chance.choices(range(11), (1, 4, 2, 2, 4, 3, 30, 12, 3, 12, 12))
+        mixed = [number for number in each_once if number not in numbers + [0] * len(begin)]
+        while len(begin) + len(numbers) + len(mixed) < 40:
+            mixed += self.chance.choices(list(weights), list(weights.values()))
+        if each_once:
+            self.chance.shuffle(mixed)
+        return begin + [(number, self.given(number, width, height, most_glue)) for number in numbers + mixed]
+
+
+    def settled_session(self):
+        """A grid on which much can be attached, then mostly reports of it."""
+        width, height, kinds = self.chance.randint(1, 6), self.chance.randint(1, 6), self.chance.randint(2, 6)
+        most_glue = self.chance.choice((2, 3, 4, 5))
+        calls = [(0, [width, height, self.chance.choice((1, 1, 1, 2, 2, 3))])]
+        calls += [(1, [self.chance.randint(0, most_glue) for _ in range(4)]) for _ in range(kinds)]
+        calls += [(2, [glue, self.chance.randint(1, 3)]) for glue in range(1, self.chance.randint(1, most_glue))]
+        for _ in range(self.chance.randint(1, 4)):
+            calls.append((4, [self.chance.randrange(width), self.chance.randrange(height),
+                              self.chance.randrange(kinds)]))
+        numbers = self.chance.choices(list(SETTLED), list(SETTLED.values()), k=40 - len(calls))
         return calls + [(number, self.given(number, width, height, most_glue)) for number in numbers]
+
+
+def written(calls):
+    return joined([[number, len(given)] + given if number == 1 else [number] + given for number, given in calls])
 
 
 class AgainstTheModel(unittest.TestCase):
 
-    def test_many_sessions(self):
+    def check_session(self, calls, seed):
+        """What was asked and how it was answered: the calls' numbers, each with 0 or a code."""
+        self.assertEqual(len(calls), 40)
+        model = Model()
+        expected = [model.call(number, given) for number, given in calls]
+        self.assertEqual(split_answers(answers(written(calls))), expected, (seed, calls))
+        return {(number, min(answer[0], 0)) for (number, given), answer in zip(calls, expected)}
+
+    def check_all_ways(self, seen, numbers):
+        # The chances are worth something only if each call is answered in each way.
+        self.assertEqual({(number, code) for number in numbers for code in WAYS[number]} - seen, set())
+
+    def test_calls_that_change(self):
         seen = set()
         for seed in range(1500):
-            calls = Chooser(seed).session()
-            model = Model()
-            expected = [model.call(number, given) for number, given in calls]
-            seen |= {(number, min(answer, 0)) for (number, given), answer in zip(calls, expected)}
-            written = joined([[number, len(given)] + given if number == 1 else [number] + given
-                              for number, given in calls])
-            self.assertEqual(answers(written), joined([[1, answer] for answer in expected]), (seed, calls))
-        # The chances are worth something only if each call is answered in each way.
-        wanted = {0: (0, -22), 1: (0, -11, -22, -28), 2: (0, -11, -22), 3: (0, -11, -22), 4: (0, -11, -2, -17),
-                  5: (0, -11, -2, -33), 6: (0, -11, -2, -17, -14), 7: (0, -11, -6), 8: (0, -11), 9: (0, -11),
-                  10: (0, -11)}
-        self.assertEqual({(number, code) for number in wanted for code in wanted[number]} - seen, set())
+            seen |= self.check_session(Chooser(seed).session(CHANGING), seed)
+        self.check_all_ways(seen, range(11))
+
+    def test_calls_of_all_sorts(self):
+        seen = set()
+        for seed in range(400):
+            seen |= self.check_session(Chooser(seed).session(MIXED), seed)
+        self.check_all_ways(seen, range(22))
+
+    def test_reports_on_settled_grids(self):
+        seen = set()
+        for seed in range(600):
+            seen |= self.check_session(Chooser(seed).settled_session(), seed)
+        # These lists all begin with create.
+        self.check_all_ways(seen | {(number, -11) for number in WAYS}, range(11, 22))
+
+    def test_all_22_calls_in_each_list(self):
+        seen = set()
+        for seed in range(400):
+            calls = Chooser(seed).session(MIXED, range(22))
+            self.assertEqual({number for number, given in calls}, set(range(22)))
+            seen |= self.check_session(calls, seed)
+        self.check_all_ways(seen, range(22))
 
 
 if __name__ == "__main__":

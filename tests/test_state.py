@@ -6,8 +6,10 @@ from gluetilesdesk.board import answer_call
 from gluetilesdesk.growth import count_rounds, growth_steps
 from gluetilesdesk.instance import Session, current_grid
 from gluetilesdesk.reading import given_begin, given_end
-from helper import (CLEAR, GROW, HUGE, ROUNDS, ROW, UNDO, add_seed, add_tile_type, ask, attach, create, joined,
-                    remove_seed, set_strength, set_threshold)
+from helper import (ALTERNATIVES, CLEAR, FIRST_ALTERNATIVE, GET_GRID, GROW, HUGE, INDEPENDENT, IS_UNIQUE,
+                    MAX_PREREQUISITES, ROUNDS, ROW, STATUS, TERMINAL_GRID, UNDO, add_seed, add_tile_type, ask, attach,
+                    create, get_tile_type, grid_without, joined, prerequisites, remove_seed, set_strength,
+                    set_threshold, told, told_behind)
 
 # Two of the four tiles that can be attached are there: in the south row, and none yet beside the seed in the north.
 BUSY = (
@@ -40,6 +42,11 @@ REFUSED = (
     (remove_seed(1, 0), -33), (remove_seed(0, 1), -33),
     (attach(4, 0, 0), -2), (attach(0, 2, 0), -2), (attach(0, 1, 3), -2), (attach(HUGE, HUGE, HUGE), -2),
     (attach(0, 0, 0), -17), (attach(1, 0, 1), -17), (attach(0, 1, 0), -14), (attach(3, 0, 1), -14),
+    (get_tile_type(3), -2), (get_tile_type(HUGE), -2), (FIRST_ALTERNATIVE, -33),
+    (grid_without(4, 0), -2), (grid_without(0, 2), -2), (grid_without(HUGE, HUGE), -2),
+    (grid_without(0, 0), -17), (grid_without(1, 0), -17),
+    (prerequisites(4, 0), -2), (prerequisites(0, 2), -2), (prerequisites(HUGE, HUGE), -2),
+    (prerequisites(3, 1), -17), (prerequisites(2, 0), -17), (prerequisites(3, 0), -33), (prerequisites(0, 1), -33),
 )
 
 # The five operations that remove all attached tiles when they succeed, with what they answer on BUSY.
@@ -48,6 +55,34 @@ DROPPING = (
     (set_threshold(1), 2), (set_threshold(2), 2), (add_seed(0, 1, 1), 3), (add_seed(1, 0, 2), 3),
     (remove_seed(0, 0), 1), (remove_seed(3, 1), 1),
 )
+
+
+# The calls 10 to 21, with positions that are empty, taken, filled by growing and not there.
+REPORTS = (
+    ROUNDS, GET_GRID, get_tile_type(0), get_tile_type(2), get_tile_type(3), STATUS, IS_UNIQUE, FIRST_ALTERNATIVE,
+    ALTERNATIVES, TERMINAL_GRID, MAX_PREREQUISITES, INDEPENDENT,
+    *[call(x, y) for call in (grid_without, prerequisites) for x, y in ((0, 0), (1, 0), (2, 1), (3, 0), (4, 2))],
+)
+
+# Tiles that were attached by grow lie between those that were attached by attach; some can follow, in several ways.
+MANY_WAYS = (
+    create(5, 3, 1),
+    add_tile_type(0, 1, 0, 1),
+    add_tile_type(0, 0, 0, 1),
+    add_seed(1, 0, 0),
+    add_seed(1, 2, 0),
+    attach(2, 0, 1),
+    GROW,
+    UNDO,
+    UNDO,
+    UNDO,
+    attach(2, 2, 0),
+)
+
+# What lays bare the state: each answer, and the tiles one by one as they are taken back.
+LAID_BARE = (STATUS, GET_GRID, get_tile_type(0), get_tile_type(1), ROUNDS, ALTERNATIVES, FIRST_ALTERNATIVE,
+             TERMINAL_GRID, MAX_PREREQUISITES, INDEPENDENT, UNDO, GET_GRID, UNDO, GET_GRID, GROW, GET_GRID, UNDO,
+             GET_GRID, CLEAR, GET_GRID, remove_seed(1, 0), STATUS, GET_GRID)
 
 
 def play(session, *calls):
@@ -162,12 +197,6 @@ class Changes(unittest.TestCase):
                                 add_tile_type(1, 1, 1, 1), add_seed(1, 1, 1), GROW)
         self.assertEqual(session.instance.attached, [(number, 1) for number in (1, 0, 2, 3, 5, 6, 7, 8)])
 
-    def test_parallel_rounds_changes_nothing(self):
-        for start in (BUSY, BUSY[:-1], BUSY[:-2], ROW, FULL_OF_KINDS[:-1], (create(6, 6, 4),)):
-            session = session_after(*start)
-            before = snapshot(session)
-            play(session, ROUNDS)
-            self.assertEqual(snapshot(session), before)
 
     def test_reckoning_ahead_leaves_the_grid_it_starts_from(self):
         instance = session_after(*BUSY).instance
@@ -176,6 +205,42 @@ class Changes(unittest.TestCase):
         self.assertEqual(growth_steps(instance, grid), [(6, 1), (5, 0)])
         self.assertEqual(count_rounds(instance, grid), 2)
         self.assertEqual(grid, [1, 2, 3, 0, 0, 0, 0, 3])
+
+
+class Reports(unittest.TestCase):
+
+    def test_change_nothing(self):
+        for start in (BUSY, BUSY[:-1], BUSY[:-2], ROW, ROW + (GROW,), FULL_OF_KINDS[:-1], MANY_WAYS,
+                      MANY_WAYS + (GROW,), (create(6, 6, 4),), (create(1, 1, 1),), ()):
+            for call in REPORTS:
+                session = session_after(*start)
+                before = snapshot(session)
+                play(session, call)
+                self.assertEqual(snapshot(session), before, call)
+
+    def test_the_start_has_tiles_of_attach_and_of_grow(self):
+        session = session_after(*MANY_WAYS)
+        self.assertEqual(session.instance.attached, [(2, 1), (0, 0), (10, 0), (12, 0)])
+        self.assertEqual(told_behind(MANY_WAYS, GET_GRID, ALTERNATIVES, prerequisites(4, 2)), [
+            [6, 1, 1, 2, 0, 0, 0, 0, 0, 0, 0, 1, 1, 1, 0, 0], [2, 13, 1, 14, 1], [1, 13]])
+
+    def test_seen_from_outside(self):
+        for start in (MANY_WAYS, MANY_WAYS[:-1], MANY_WAYS[:-3], MANY_WAYS[:5], BUSY):
+            expected = told_behind(start, *LAID_BARE)
+            for call in REPORTS:
+                self.assertEqual(told_behind(start, call, *LAID_BARE)[1:], expected, (start, call))
+
+    def test_all_together(self):
+        expected = told_behind(MANY_WAYS, STATUS, GET_GRID, ALTERNATIVES, UNDO, GET_GRID, UNDO, GET_GRID)
+        for reports in (REPORTS, REPORTS[::-1]):
+            found = told_behind(MANY_WAYS, *reports, STATUS, GET_GRID, ALTERNATIVES, UNDO, GET_GRID, UNDO, GET_GRID)
+            self.assertEqual(found[len(reports):], expected)
+
+    def test_the_same_again(self):
+        for start in (MANY_WAYS, MANY_WAYS[:5], BUSY, ROW):
+            for call in REPORTS:
+                found = told(*start, call, call, call)
+                self.assertEqual([found[-3], found[-2]], [found[-1]] * 2, call)
 
 
 if __name__ == "__main__":
