@@ -37,8 +37,8 @@ class Examples(unittest.TestCase):
         self.assertEqual(answers([
             0, 3, 1, 1, 1, 4, 0, 1, 0, 0, 1, 4, 0, 2, 0, 1, 1, 4, 0, 0, 0, 2, 4, 0, 0, 0, 14, 17, 18, 1, 0, 19, 2, 0,
             20, 21, 15, 1, 4, 0, 0, 0, 1, 14, 15, 19, 0, 0]), [
-            1, 0, 1, 0, 1, 1, 1, 2, 1, 1, 1, 1, 4, 3, 1, 2, 3, 4, 1, 1, 0, 0, 2, 1, 1, 1, 1, 2, 1, 1, 1, -33, 1, 3, 1, 0,
-            3, 1, 1, 3, 1, -17])
+            1, 0, 1, 0, 1, 1, 1, 2, 1, 1, 1, 1, 4, 3, 1, 2, 3, 4, 1, 1, 0, 0, 2, 1, 1, 1, 1, 2, 1, 1, 1, -33, 1, 3,
+            1, 0, 3, 1, 1, 3, 1, -17])
         self.assertEqual(answers(joined([call for call, answer in EXAMPLES])),
                          joined([[len(answer)] + answer for call, answer in EXAMPLES]))
 
